@@ -168,9 +168,13 @@ func PutVal(words []uint64, at int, v Val) ([]uint64, bool) {
 	if !hasPair(words, at) || !ValOk(v) {
 		return out, false
 	}
-	out[at] = uint64(v.Tag)
-	out[at+1] = uint64(v.N)
+	layVal(out, at, v)
 	return out, true
+}
+
+func layVal(words []uint64, at int, v Val) {
+	words[at] = uint64(v.Tag)
+	words[at+1] = uint64(v.N)
 }
 
 func GetVal(words []uint64, at int) (Val, bool) {
