@@ -339,6 +339,7 @@ func swapEntries(words []uint64, i int, j int) {
 }
 
 func TestArenaOkAgainstTheModel(t *testing.T) {
+	t.Parallel()
 	r := rand.New(rand.NewSource(2))
 	right, wrong := 0, 0
 	for range 40000 {

@@ -36,8 +36,8 @@ func checkNotCopied(t *testing.T, name string, a impl.Arena) {
 	}
 }
 
-// One wrong arena for each point of ArenaOk; checkRefused asks the same of all other wrong ones.
-func TestCopyingOfWrongArenas(t *testing.T) {
+// wrongArenas has one for each point of ArenaOk, with either half in use; checkRefused asks the same of all other wrong ones.
+func wrongArenas() []turned {
 	still := []turn{
 		{"point 1: a word too many", func(s *sample) { s.Words = append(s.Words, 0) }},
 		{"point 1: Top behind the half", func(s *sample) { s.Top = s.To*s.Semi + s.Semi + 1 }},
@@ -66,19 +66,32 @@ func TestCopyingOfWrongArenas(t *testing.T) {
 		{"point 4: from the other half into the one in use", func(s *sample) { s.put("old box", 1, pairs(ref(impl.TCell, s.at["copy box"]))...) }},
 		{"point 5: a Root into the other half", func(s *sample) { s.Roots[2] = ref(impl.TStr, s.at["old text"]) }},
 	}
+	list := []turned{{"nothing", impl.Arena{}}}
 	for to := range 2 {
 		for _, turn := range still {
 			s := stillSample(300, to)
 			turn.do(&s)
-			checkNotCopied(t, turn.name, s.Arena)
+			list = append(list, turned{turn.name, s.Arena})
 		}
 		for _, turn := range running {
 			s := cycleSample(300, to)
 			turn.do(&s)
-			checkNotCopied(t, turn.name, s.Arena)
+			list = append(list, turned{turn.name, s.Arena})
 		}
 	}
-	checkNotCopied(t, "nothing", impl.Arena{})
+	return list
+}
+
+// turned is an arena that is not right any more, and why.
+type turned struct {
+	name string
+	impl.Arena
+}
+
+func TestCopyingOfWrongArenas(t *testing.T) {
+	for _, wrong := range wrongArenas() {
+		checkNotCopied(t, wrong.name, wrong.Arena)
+	}
 }
 
 // stand is where a cycle is, places counted from the beginning of the half in use.

@@ -216,6 +216,7 @@ func TestCopyingOfTheSamples(t *testing.T) {
 
 // Arenas that come of chance, right ones among them that no run of the program would leave behind.
 func TestCopyingOfTurnedSamples(t *testing.T) {
+	t.Parallel()
 	r := rand.New(rand.NewSource(3))
 	right := 0
 	for range 8000 {

@@ -187,6 +187,7 @@ func changed(r *rand.Rand, a impl.Arena) impl.Arena {
 
 // Arenas of all kinds of objects, in either half, with circles and garbage: each goes through cycles, step by step, while it is changed.
 func TestCopyingWhileItIsChanged(t *testing.T) {
+	t.Parallel()
 	r := rand.New(rand.NewSource(33))
 	flips, ends := 0, 0
 	for range 100 {
