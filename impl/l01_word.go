@@ -47,6 +47,7 @@ const (
 const (
 	minBlk     = 4 // entries of the least block
 	entryWords = 4 // a key and a value, two words each
+	coSize     = 6 + 2*StackCap
 )
 
 // Head is what the first word of an object says.
@@ -90,7 +91,7 @@ func sizeOk(kind int, size int) bool {
 	case KCell:
 		return size == 2
 	case KCo:
-		return size == 6+2*StackCap
+		return size == coSize
 	}
 	return false
 }
