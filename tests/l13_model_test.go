@@ -144,10 +144,10 @@ func (k *thinker) statement(knot impl.Knot, s *sight) *back {
 		}
 	case impl.NWhile:
 		for first().isSo() {
-			k.unit()
 			if b := k.block(knot.Kids[1], s); b != nil {
 				return b
 			}
+			k.unit()
 		}
 	case impl.NReturn:
 		return &back{first()}

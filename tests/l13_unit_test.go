@@ -60,10 +60,8 @@ func TestUnitsOfLoops(t *testing.T) {
 	checkUnits(t, "while false { local a = 1; }", "0 done")
 	checkUnits(t, "local i = 0; while i < 1 { i = i + 1; }", "0 0 0 0 done")
 	checkUnits(t, "local i = 0; while i < 2 { i = i + 1; }", "0 0 0 0 0 0 done")
-	// The block's unit is ahead of its statements.
-	checkUnits(t, "local i = 0; while i < 2 { print(i); i = i + 1; }", "0 0 0 0 0 1 1 1 1 2 done")
-	checkUnits(t, "while true { return 1; }", "0 0 0 done")
-	checkUnits(t, "while 1 { local a = 1 / 0; }", "0 0 0 error")
+	// The block's unit is behind its statements.
+	checkUnits(t, "local i = 0; while i < 2 { print(i); i = i + 1; }", "0 0 0 0 1 1 1 1 2 2 done")
 	checkUnits(t, "while 1 / 0 { }", "0 error")
 	// A loop in a loop: its statement each time, and each of its rounds.
 	checkUnits(t, "local i = 0; while i < 2 { i = i + 1; local j = 0; while j < i { j = j + 1; } }", zeros(2+2*4+2+4)+"done")
@@ -74,6 +72,42 @@ func TestUnitsOfLoops(t *testing.T) {
 			t.Error("for ever, with", fuel, told)
 		}
 	}
+}
+
+// The unit of a block is taken each time that the block is done, ahead of what is asked anew.
+func TestUnitsBehindBlocks(t *testing.T) {
+	for fuel := range 603 {
+		told := meaning(t, treeOf(t, "while true { print(1); }"), fuel)
+		if !sameTold(told, impl.Told{Out: strings.Fields(ones(fuel / 3)), State: impl.MachFuel}) {
+			t.Error("for ever, with", fuel, told)
+		}
+	}
+	// The text that is one too many.
+	full := impl.Told{Out: strings.Fields(ones(200)), State: impl.MachError, Error: impl.Val{Tag: impl.TInt, N: impl.ErrOut}}
+	if told := meaning(t, treeOf(t, "while true { print(1); }"), 603); !sameTold(told, full) {
+		t.Error("for ever, with 603", told)
+	}
+	checkUnits(t, `if (1 ~= ({1, 0})) { local vba = 0; while (vba < 3) { vba = (vba + 1); print(vba); } } else { if (10 ~= (10 - 0)) { print(({[3] = (7 * 10), ["x"] = (- 2)})); } } local vca = ({["x"] = false});`,
+		zeros(6)+"1 1 1 1 2 2 2 2 3 3 done")
+	checkUnits(t, "local go = true; while go { go = false; } print(1);", "0 0 0 0 0 0 done")
+	checkUnits(t, "local go = true; while go { go = false; print(1); } print(2);", "0 0 0 0 0 1 1 1 done")
+	checkUnits(t, "local f = fn(x) { print(x); return x < 2; }; local i = 0; while f(i) { i = i + 2; }", zeros(6)+"1 1 1 1 1 1 2 done")
+	// A loop in a loop: the unit of the inner block, then what is behind that loop, then the unit of the outer one.
+	checkUnits(t, "local i = 0; while i < 2 { i = i + 1; local j = 0; while j < i { j = j + 1; print(j); } print(9); }",
+		zeros(8)+"1 1 1 2 2 2 2 2 2 2 3 3 3 3 4 4 4 5 done")
+}
+
+// A block that a return or an error leaves was not done.
+func TestUnitsOfBlocksThatAreLeft(t *testing.T) {
+	checkUnits(t, "while true { return 1; }", "0 0 done")
+	checkUnits(t, "while 1 { while 2 { if 3 { return 4; } } }", "0 0 0 0 done")
+	checkUnits(t, "local f = fn() { while true { print(1); return 2; } }; f(); print(3);", zeros(6)+"1 1 1 done")
+	checkUnits(t, "while 1 { local a = 1 / 0; }", "0 0 error")
+	checkUnits(t, "while true { print(1); nil(); }", "0 0 0 1 1 error")
+	checkUnits(t, "pcall(fn() { while true { print(1); error(2); } }); print(3);", zeros(6)+"1 1 1 1 done")
+	// The times ahead of the one that is left were done.
+	checkUnits(t, "local i = 0; while true { i = i + 1; if i == 3 { return i; } }", zeros(2+2*3+3)+"done")
+	checkUnits(t, "local i = 3; while true { i = i - 1; print(6 / i); }", zeros(5)+"1 1 1 1 2 2 2 error")
 }
 
 func TestUnitsOfCalls(t *testing.T) {
@@ -126,7 +160,7 @@ func TestUnitsOfPcall(t *testing.T) {
 // Units that lack within all that is open.
 func TestUnitsThatLackDeepWithin(t *testing.T) {
 	text := "local t = {}; t[1] = fn(a) { if a { while a { print(a); a = false; } } return a; }; print(1 + #tostr(pcall(t[1], 2) or t[1](3)));"
-	checkUnits(t, text, zeros(10)+"1 1 1 1 1 1 1 1 2 2 2 2 done")
+	checkUnits(t, text, zeros(9)+"1 1 1 1 1 1 1 1 2 2 2 2 2 done")
 	if told := meaning(t, treeOf(t, text), 100); strings.Join(told.Out, " ") != "2 3 6" {
 		t.Error("out", told)
 	}
