@@ -35,6 +35,9 @@ func TestCoroutinesInCompany(t *testing.T) {
 			"a1 b1 a2 b2 aend 3 b3 1 bend 3"),
 		done(`local d = co(fn(y) { print(y); y = yield(y + 1); print(y); return y + 1; }); local c = co(fn(x) { local z = resume(d, x * 10); print(state(d)); z = yield(z); z = resume(d, z * 10); print(state(d)); return z; }); print(resume(c, 1)); print(state(c)); print(state(d)); print(resume(c, 2)); print(state(c)); print(pcall(fn(x) { return resume(d, x); }, 0));`,
 			"10 1 11 1 1 20 3 21 3 7"),
+		// What is handed over lay on a stack that waited while a third argument was reckoned: the one may be gone over already, the other not.
+		done(`local x = co(fn(v) { while true { v = yield(v[1]); } return 0; }); resume(x, {0}); local a = co(fn(n) { while n < 9 { print(resume(x, {n}, yield(n))); n = n + 1; } return "end"; }); print(resume(a, 7)); local v = resume(a); while v ~= "end" { print(v); v = resume(a); } print(state(x)); print(state(a));`,
+			"7 7 8 8 1 3"),
 		// What nobody has resumed any more is gone; what is held is not.
 		done(`local i = 0; local t = {}; while i < 12 { i = i + 1; local c = co(fn(x) { yield(x); return 0; }); resume(c, i); t.last = c; } print(resume(t.last)); print(state(t.last));`, "0 3"),
 	)

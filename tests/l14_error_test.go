@@ -32,6 +32,8 @@ func TestCaughtErrorsInCompany(t *testing.T) {
 		done(`print(pcall(fn(x) { pcall(fn(y) { error("inner"); return 0; }, 1); print(failed()); error("outer"); return 0; }, 1)); print(failed());`, "true outer true"),
 		// Who returns well tells so, whatever failed ahead of it.
 		done(`pcall(fn(x) { error(x); return 0; }, 1); print(failed()); pcall(fn(x) { return x; }, 1); print(failed());`, "true false"),
+		// Functions that were not called by pcall return between: they tell nothing of it.
+		done(`local f = fn(x) { return x; }; pcall(fn(x) { error(x); return 0; }, 1); print(f(2)); f(f(3)); print(failed()); pcall(f, 1); f(1); print(failed());`, "2 true false"),
 		// What nobody catches.
 		ends(change+`print("ahead"); pcall(f, 1); print(t[1]); error(n);`, "ahead in 10", 6),
 		act{change + "f(1);", "in", impl.MachError, impl.Val{Tag: impl.TTab}},

@@ -252,3 +252,30 @@ func TestNextFlippedAtEachStep(t *testing.T) {
 		t.Error(want.Out, flipped, "flips of", want.Steps)
 	}
 }
+
+// A cycle that begins ahead of any step, goes over so many objects at once, and is over some steps later: in between, what was gone over stands beside what was not.
+func TestCyclesOfAFewSteps(t *testing.T) {
+	t.Parallel()
+	for _, text := range []string{
+		// What is handed over lies on a stack that waited: the one who gets it may be gone over already (a slot of its own, ahead of the other's, leads to it), who hands it over not.
+		`local x = co(fn(v) { while true { v = yield(v[1]); } return 0; }); local first = x; resume(x, {0}); local a = co(fn(n) { while n < 9 { print(resume(x, {n}, yield(n))); n = n + 1; } return "end"; }); print(resume(a, 7)); local v = resume(a); while v ~= "end" { print(v); v = resume(a); } print(state(x));`,
+		// The same of what is yielded.
+		`local a = co(fn(n) { while n < 9 { yield({n}, yield(n)); n = n + 1; } return "end"; }); print(resume(a, 7)); local v = resume(a); while v ~= "end" { print(v[1]); v = resume(a); if v ~= "end" { print(v); v = resume(a); } }`,
+		// Of what is raised, and what is set.
+		`local t = {}; local a = co(fn(n) { t[1] = {n, yield(1)}; error({n, t}, yield(2)); return 0; }); resume(a, {7}); resume(a, 8); local e = pcall(fn(x) { return resume(a, x); }, 9); print(e[1][1]); print(t == e[2]); print(t[1][1] == e[1]); print(t[1][2]);`,
+	} {
+		// So great that no cycle begins by itself.
+		want := hosted(t, text, 2000, runs(4000))
+		if want.State != impl.MachDone {
+			t.Fatal(text, want.State, want.Error)
+		}
+		for begun := range want.Steps {
+			for gone := range 7 {
+				for steps := 1; steps <= 8; steps++ {
+					list := acts(runs(begun), flips(), copies(gone), runs(steps), copies(4000), collects(), runs(4000))
+					checkTheSame(t, text, hosted(t, text, 2000, list...), want)
+				}
+			}
+		}
+	}
+}
