@@ -22,7 +22,7 @@ func packed(h impl.Head) uint64 {
 	return w
 }
 
-// checkRefused: an arena that is none is refused by all functions of chapters 2 to 7, and handed back where the document says so.
+// checkRefused: an arena that is none is refused by all functions of chapters 2 to 7 and 15, and handed back where the document says so.
 func checkRefused(t *testing.T, name string, a impl.Arena) {
 	t.Helper()
 	in := roomy(a)
@@ -56,6 +56,7 @@ func checkRefused(t *testing.T, name string, a impl.Arena) {
 	checkNoTexts(t, name, a)
 	checkNoTables(t, name, a)
 	checkNoShape(t, name, a)
+	checkNoImage(t, name, a)
 }
 
 // checkTurns makes each change in a sample with either half in use.
