@@ -45,6 +45,7 @@ func checkNoSteps(t *testing.T, name string, m impl.Machine) {
 	if all() != before {
 		t.Fatalf("%s was written into", name)
 	}
+	checkNothingSeen(t, name, m)
 }
 
 func TestStepsOfWrongMachines(t *testing.T) {
